@@ -1,0 +1,1 @@
+"""Legsteps: step rules over several old steps, for all equations."""

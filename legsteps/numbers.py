@@ -1,0 +1,33 @@
+"""Whole numbers, fractions (n, m) and points (x, y): which values are ones."""
+
+from math import gcd
+
+from legsteps.errors import InvalidPoint
+
+
+def is_whole(value):
+    """Whether the value is a whole number; True and False are none."""
+    return isinstance(value, int) and not isinstance(value, bool)
+
+
+def is_fraction(value):
+    """Whether the value is a reduced pair of whole numbers, the second one above 0."""
+    if not isinstance(value, tuple) or len(value) != 2:
+        return False
+    number, parts = value
+    if not is_whole(number) or not is_whole(parts):
+        return False
+    return parts > 0 and gcd(number, parts) == 1
+
+
+def is_point(value):
+    """Whether the value is a pair of fractions."""
+    if not isinstance(value, tuple) or len(value) != 2:
+        return False
+    return is_fraction(value[0]) and is_fraction(value[1])
+
+
+def check_point(point):
+    """Raise InvalidPoint for what is no point."""
+    if not is_point(point):
+        raise InvalidPoint(point)

@@ -1,0 +1,115 @@
+"""Polynomials with whole numbers: tuples, the lowest power first, the last number not 0."""
+
+from math import gcd, lcm
+
+# Those p for which 2 to the power p, less 1, is a prime number, and each is well above the one before it.
+PRIME_POWERS = (61, 127, 521, 1279, 4423, 9941, 21701, 44497, 86243, 216091)
+
+
+def trimmed(numbers, nought):
+    """The tuple of the numbers without the noughts at the end."""
+    many = len(numbers)
+    while many and numbers[many - 1] == nought:
+        many -= 1
+    return tuple(numbers[:many])
+
+
+def cleared(polynomial):
+    """The pair of whole numbers and of one m above 0: the polynomial's fractions are these numbers by m."""
+    parts = 1
+    for _, each in polynomial:
+        parts = lcm(parts, each)
+    return tuple([number * (parts // each) for number, each in polynomial]), parts
+
+
+def reduced_wholes(numbers):
+    """The numbers divided by the greatest whole number that divides all of them."""
+    shared = 0
+    for each in numbers:
+        shared = gcd(shared, each)
+    return tuple([each // shared for each in numbers])
+
+
+def rest_of(first, second):
+    """What is left, with fewer elements than the second one, of the first one times a power of the second's last."""
+    rest = list(first)
+    lead = second[-1]
+    while len(rest) >= len(second):
+        top = rest.pop()
+        if top == 0:
+            continue
+        shift = len(rest) + 1 - len(second)
+        rest = [each * lead for each in rest]
+        for at, each in enumerate(second[:-1]):
+            rest[shift + at] -= top * each
+    return trimmed(rest, 0)
+
+
+def divides(divisor, numbers):
+    """Whether the divisor, of reduced numbers, divides the polynomial of the numbers."""
+    rest = list(numbers)
+    while len(rest) >= len(divisor):
+        factor, left = divmod(rest.pop(), divisor[-1])
+        if left:
+            return False
+        shift = len(rest) + 1 - len(divisor)
+        for at, each in enumerate(divisor[:-1]):
+            rest[shift + at] -= factor * each
+    return not any(rest)
+
+
+def inverse_of(number, prime):
+    """The whole number from 1 to prime - 1 whose product with the number leaves 1 by the prime."""
+    high, low = prime, number % prime
+    last, factor = 0, 1
+    while low:
+        often = high // low
+        high, low = low, high - often * low
+        last, factor = factor, last - often * factor
+    return last % prime
+
+
+def modulo(numbers, prime):
+    """The polynomial of what the numbers leave by the prime."""
+    return trimmed([each % prime for each in numbers], 0)
+
+
+def common_modulo(first, second, prime):
+    """The polynomial of the greatest power that divides both, where whole numbers count as what they leave."""
+    first, second = modulo(first, prime), modulo(second, prime)
+    while second:
+        first, second = second, modulo(rest_of(first, second), prime)
+    return first
+
+
+def lifted(numbers, lead, prime):
+    """The polynomial of the numbers times one factor, the last one the lead, told next to 0, then reduced."""
+    factor = lead * inverse_of(numbers[-1], prime)
+    found = []
+    for each in numbers:
+        left = each * factor % prime
+        found.append(left - prime if left > prime // 2 else left)
+    return reduced_wholes(found)
+
+
+def common_by_rests(first, second):
+    """The common polynomial by a row of rests, none nought; its numbers are reduced."""
+    while second:
+        first, second = second, reduced_wholes(rest_of(first, second))
+    return first
+
+
+def common_wholes(first, second, powers=PRIME_POWERS):
+    """A polynomial of the greatest power that divides both; the numbers of all three are reduced."""
+    # A row of rests has huge numbers even where the answer has small ones, so primes are tried first. A prime that
+    # does not divide both last numbers leads to at least as great a power: what then divides both is the answer.
+    if not first or not second:
+        return first or second
+    lead = gcd(first[-1], second[-1])
+    for power in powers:
+        prime = (1 << power) - 1
+        if lead % prime:
+            found = lifted(common_modulo(first, second, prime), lead, prime)
+            if divides(found, first) and divides(found, second):
+                return found
+    return common_by_rests(first, second)

@@ -1,0 +1,92 @@
+"""Values that several tests share."""
+
+from fractions import Fraction
+from random import Random
+
+NIL, ONE, TWO, HALF = (0, 1), (1, 1), (2, 1), (1, 2)
+HUGE = 10 ** 399 + 7
+LESS_ONE, MORE_ONE = ((-1, 1), ONE), (ONE, ONE)
+
+
+class Sly:
+    """An object that says that it is equal to anything, and fails at all else that it is asked."""
+
+    def __eq__(self, other):
+        return True
+
+    def __len__(self):
+        raise RuntimeError("asked for its length")
+
+    def __getitem__(self, at):
+        raise RuntimeError("asked for an item")
+
+    def __iter__(self):
+        raise RuntimeError("iterated")
+
+    def __bool__(self):
+        raise RuntimeError("asked whether it is true")
+
+
+class Hostile(Sly):
+    """An object that fails when it is compared, too."""
+
+    def __eq__(self, other):
+        raise RuntimeError("compared")
+
+    __ne__ = __eq__
+
+
+def nested(depth):
+    """A tuple within a tuple, so often."""
+    return (nested(depth - 1),) if depth else ()
+
+
+# None of these is a fraction, a point or a polynomial, and no part of one.
+ODD_VALUES = (
+    None, True, False, 0, 1, -1, HUGE, "", "1/2", "01", b"", b"\x00\x01", [], [0, 1], [ONE, ONE], {}, {0: 1}, {(0, 1): 1},
+    set(), {0, 1}, frozenset({1, 2}), range(0), range(2), Fraction(1, 2), object(), int, tuple, len, ValueError("x"),
+    iter((0, 1)), (each for each in (0, 1)), Sly(), Hostile(), nested(14), ((), ()), (None,), (None, None), (ONE, None),
+    ("0", "1"), ("", ""), (Sly(), Hostile()), (Hostile(), 1), (0, Sly()), (((0, 1), (1, 1)), ((0, 1), (1, 1))),
+)
+
+# Each is a pair of values, but no fraction.
+ODD_PAIRS = (
+    (True, 1), (False, 1), (1, True), (0, True), (True, True), (0, 2), (0, 0), (0, -1), (1, 0), (-1, 0), (1, -1), (-1, -2),
+    (2, 4), (-2, 4), (2, 2), (-3, 3), (6, 4), (HUGE, HUGE), (2 * HUGE, 4), (0, HUGE), (1, -HUGE), ("1", 2), (1, "2"),
+    (None, 1), (1, None), ([1], 2), ((1,), 2), (1, (2,)), (ONE, 1), (b"1", 1), (Fraction(1), 1), (1, Fraction(2)),
+)
+
+# Each has whole numbers alone, but not two of them, or is not a tuple.
+ODD_ROWS = ((1,), (0, 1, 1), (1, 2, 3), (0, 0, 0, 0), [0, 1], [1, 2], {0: 1, 1: 2}, range(1, 3))
+
+FRACTIONS = (
+    NIL, ONE, TWO, HALF, (-1, 1), (-1, 2), (3, 4), (-7, 3), (1, HUGE), (HUGE, 1), (-HUGE, HUGE + 1), (7, 10 ** 399),
+)
+
+
+def pair_of(number):
+    """The fraction for what Python calls one, or a whole number."""
+    return Fraction(number).as_integer_ratio()
+
+
+def python_of(fraction):
+    """What Python calls a fraction."""
+    return Fraction(fraction[0], fraction[1])
+
+
+def polynomial_of(numbers):
+    """The polynomial for a row of whole numbers, or of Python's fractions."""
+    numbers = list(numbers)
+    while numbers and numbers[-1] == 0:
+        numbers.pop()
+    return tuple(pair_of(each) for each in numbers)
+
+
+def some_polynomials(many, greatest=4, powers=6):
+    """So many polynomials, the same ones at each call, noughts and nought ones among them."""
+    random = Random(20261119)
+    found = []
+    for _ in range(many):
+        row = [Fraction(random.randint(-greatest, greatest), random.randint(1, 3)) for _ in range(random.randint(0, powers))]
+        found.append(polynomial_of(row))
+    return found
