@@ -34,3 +34,11 @@ def raw_product(fraction, other):
 def quotient_of(fraction, other):
     """The fraction divided by the other one, which is not 0."""
     return as_fraction(fraction[0] * other[1], fraction[1] * other[0])
+
+
+def power_of(number, often):
+    """The whole number times itself, so often, from 0 on; 1 for 0 times, of 0, too."""
+    found = 1
+    for _ in range(often):
+        found = found * number
+    return found

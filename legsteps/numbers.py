@@ -2,7 +2,7 @@
 
 from math import gcd
 
-from legsteps.errors import InvalidPoint
+from legsteps.errors import InvalidNumber, InvalidPoint
 
 
 def is_whole(value):
@@ -20,6 +20,11 @@ def is_fraction(value):
     return parts > 0 and gcd(number, parts) == 1
 
 
+def are_fractions(value):
+    """Whether the value is a tuple of fractions, as many as may be."""
+    return isinstance(value, tuple) and all(is_fraction(each) for each in value)
+
+
 def is_point(value):
     """Whether the value is a pair of fractions."""
     if not isinstance(value, tuple) or len(value) != 2:
@@ -31,3 +36,9 @@ def check_point(point):
     """Raise InvalidPoint for what is no point."""
     if not is_point(point):
         raise InvalidPoint(point)
+
+
+def check_number(number, least, greatest):
+    """Raise InvalidNumber for what is no whole number from the least to the greatest one."""
+    if not is_whole(number) or number < least or number > greatest:
+        raise InvalidNumber(number)

@@ -4,15 +4,13 @@ from math import lcm
 
 from legsteps.arithmetic import NOUGHT, as_fraction, quotient_of, raw_product, sum_of
 from legsteps.errors import InvalidPolynomial
-from legsteps.numbers import check_point, is_fraction
+from legsteps.numbers import are_fractions, check_point
 from legsteps.wholes import cleared, common_wholes, reduced_wholes, trimmed
 
 
 def is_polynomial(value):
     """Whether the value is a tuple of fractions that does not end with (0, 1)."""
-    if not isinstance(value, tuple) or not all(is_fraction(each) for each in value):
-        return False
-    return not value or value[-1] != NOUGHT
+    return are_fractions(value) and (not value or value[-1] != NOUGHT)
 
 
 def check_polynomial(polynomial):
@@ -21,7 +19,7 @@ def check_polynomial(polynomial):
         raise InvalidPolynomial(polynomial)
 
 
-def check_divisor(polynomial):
+def check_not_nought(polynomial):
     """Raise InvalidPolynomial for what is no polynomial, and for the nought one."""
     check_polynomial(polynomial)
     if not polynomial:
@@ -71,7 +69,7 @@ def worth(polynomial, point):
 def divided(polynomial, other):
     """The pair of the quotient and of the rest by the other one, which is not nought."""
     check_polynomial(polynomial)
-    check_divisor(other)
+    check_not_nought(other)
     lead = len(other) - 1
     quotient = [NOUGHT] * max(0, len(polynomial) - lead)
     for at in reversed(range(len(quotient))):

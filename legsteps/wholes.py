@@ -31,13 +31,11 @@ def reduced_wholes(numbers):
 
 
 def rest_of(first, second):
-    """What is left, with fewer elements than the second one, of the first one times a power of the second's last."""
+    """The rest of the first one times the second's last number, once for each element that the quotient has."""
     rest = list(first)
     lead = second[-1]
     while len(rest) >= len(second):
         top = rest.pop()
-        if top == 0:
-            continue
         shift = len(rest) + 1 - len(second)
         rest = [each * lead for each in rest]
         for at, each in enumerate(second[:-1]):

@@ -7,6 +7,13 @@ NIL, ONE, TWO, HALF = (0, 1), (1, 1), (2, 1), (1, 2)
 HUGE = 10 ** 399 + 7
 LESS_ONE, MORE_ONE = ((-1, 1), ONE), (ONE, ONE)
 
+# The rules of the document.
+EULER, BACK_EULER = (LESS_ONE, (ONE, NIL)), (LESS_ONE, (NIL, ONE))
+HALVES, LEAP = (LESS_ONE, (HALF, HALF)), (((-1, 1), NIL, ONE), (NIL, TWO, NIL))
+TWIN, WILD = ((HALF, (-2, 1), (3, 2)), (NIL, NIL, ONE)), (((-5, 1), (4, 1), ONE), (TWO, (4, 1), NIL))
+FLAT, SLOW = ((ONE, ONE), (ONE, NIL)), (LESS_ONE, (TWO, NIL))
+THREE = (((-1, 3), (3, 2), (-3, 1), (11, 6)), (NIL, NIL, NIL, ONE))
+
 
 class Sly:
     """An object that says that it is equal to anything, and fails at all else that it is asked."""
@@ -90,3 +97,62 @@ def some_polynomials(many, greatest=4, powers=6):
         row = [Fraction(random.randint(-greatest, greatest), random.randint(1, 3)) for _ in range(random.randint(0, powers))]
         found.append(polynomial_of(row))
     return found
+
+
+def rule_of(first, second):
+    """The rule for two rows of whole numbers, or of Python's fractions."""
+    return (tuple(pair_of(each) for each in first), tuple(pair_of(each) for each in second))
+
+
+def scaled(rule, factor):
+    """The rule with all numbers times the factor."""
+    return rule_of(*[[python_of(each) * factor for each in row] for row in rule])
+
+
+def some_rules(many, steps=(1, 2, 3, 4), greatest=4, seed=7):
+    """So many rules, the same ones at each call, some of which converge, and some of which have the second part 0."""
+    random = Random(seed)
+    found = []
+    while len(found) < many:
+        length = random.choice(steps) + 1
+        first = [Fraction(random.randint(-greatest, greatest), random.randint(1, 3)) for _ in range(length)]
+        second = [Fraction(random.randint(-greatest, greatest), random.randint(1, 3)) for _ in range(length)]
+        if random.random() < 0.5:
+            first[0] -= sum(first)
+        if random.random() < 0.05:
+            second = [0] * length
+        if first[-1] != 0:
+            found.append(rule_of(first, second))
+    return found
+
+
+def product_of(*factors):
+    """The product of polynomials that are told as rows of numbers."""
+    found = [Fraction(1)]
+    for factor in factors:
+        made = [Fraction(0)] * (len(found) + len(factor) - 1)
+        for at, left in enumerate(found):
+            for to, right in enumerate(factor):
+                made[at + to] += left * right
+        found = made
+    return found
+
+
+def near_roots(numbers):
+    """The roots of a polynomial with complex numbers, near (Durand and Kerner); the last number is not 0."""
+    numbers = [complex(each) / complex(numbers[-1]) for each in numbers]
+    roots = [complex(0.4, 0.9) ** at * (1 + max(abs(each) for each in numbers)) for at in range(len(numbers) - 1)]
+    for _ in range(400):
+        moved = []
+        for at, root in enumerate(roots):
+            told, below = 0, 1
+            for each in reversed(numbers):
+                told = told * root + each
+            for to, other in enumerate(roots):
+                if to != at:
+                    below *= root - other
+            moved.append(root - told / below if below else root + 1e-9)
+        if max([abs(one - other) for one, other in zip(roots, moved)], default=0) < 1e-15:
+            return moved
+        roots = moved
+    return roots

@@ -131,6 +131,20 @@ class Form(unittest.TestCase):
                 if isinstance(each, ast.ExceptHandler):
                     self.assertIsNotNone(each.type, path)
 
+    def test_stars_in_calls_stand_before_names(self):
+        for path, tree in trees():
+            for each in ast.walk(tree):
+                if isinstance(each, ast.Call):
+                    for part in each.args:
+                        if isinstance(part, ast.Starred):
+                            self.assertIsInstance(part.value, (ast.Name, ast.Attribute, ast.List, ast.Tuple), path)
+
+    def test_powers_are_literals(self):
+        for path, tree in trees():
+            for each in ast.walk(tree):
+                if isinstance(each, ast.BinOp) and isinstance(each.op, ast.Pow):
+                    self.assertIsInstance(each.right, ast.Constant, path)
+
     def test_no_percent_sign_in_a_string(self):
         for path, tree in trees():
             for text in strings(tree):

@@ -8,22 +8,13 @@ from legsteps.errors import InvalidPoint, InvalidPolynomial
 from legsteps.numbers import is_point
 from legsteps.polys import common, divided, is_polynomial, plus, times, worth
 from samples import (
-    FRACTIONS, HALF, HUGE, LESS_ONE, MORE_ONE, NIL, ODD_PAIRS, ODD_ROWS, ODD_VALUES, ONE, TWO, pair_of, polynomial_of,
-    python_of, some_polynomials,
+    FRACTIONS, HALF, HUGE, LESS_ONE, MORE_ONE, NIL, ONE, TWO, pair_of, polynomial_of, python_of, some_polynomials,
 )
+from wrongs import ODD_POINTS, ODD_POLYNOMIALS, WrongCase
 
 ORIGIN = (NIL, NIL)
 SQUARE_LESS_ONE = ((-1, 1), NIL, ONE)
 GREAT = ((HUGE, 3), (-5, HUGE), (HUGE ** 2 + 1, HUGE), (-HUGE, 1))
-
-# None of these is a polynomial.
-ODD_POLYNOMIALS = ODD_VALUES + ODD_PAIRS + ODD_ROWS + FRACTIONS + (
-    (NIL,), (ONE, NIL), (NIL, NIL), (ONE, HALF, NIL, NIL), [], [ONE], [ONE, TWO], (ONE, [1, 1]), ([0, 1], ONE), (ONE, None),
-    (ONE, (2, 2)), ((2, 4), ONE), (ONE, (1, 0)), ((1, -1), ONE), (ONE, (0, 2)), (ONE, (True, 1)), ((1, True), ONE),
-    (ONE, 1), (1, ONE), ((ONE,),), ((1, 1, 1),), ((1,), ONE), (ONE, ORIGIN), ("", ONE), (ONE, "11"), ((NIL, ONE), (ONE, NIL)),
-    {ONE: ONE}, (ONE,) * 40 + (NIL,), (ONE,) * 40 + ((3, 3),), (ONE, ()), ((), ONE),
-)
-ODD_POINTS = ODD_VALUES + ODD_PAIRS + ODD_ROWS + FRACTIONS + ((), (ONE,), (ONE, ONE, ONE), [ONE, ONE], (ONE, (2, 2)), ((0, 2), ONE))
 
 BINARY = (plus, times, divided, common)
 
@@ -259,13 +250,7 @@ class Commons(unittest.TestCase):
                     self.assertEqual(common(parts[0][0], parts[1][0]), (ONE,))
 
 
-class WrongInputs(unittest.TestCase):
-
-    def check_raises(self, kind, given, function, *told, **named):
-        with self.assertRaises(kind) as caught:
-            function(*told, **named)
-        self.assertIs(caught.exception.__class__, kind)
-        self.assertIs(caught.exception.given, given)
+class WrongInputs(WrongCase):
 
     def test_what_is_no_polynomial(self):
         for odd in ODD_POLYNOMIALS:
