@@ -2,7 +2,7 @@
 
 from math import gcd
 
-from legsteps.errors import InvalidNumber, InvalidPoint
+from legsteps.errors import InvalidNumber, InvalidPoint, InvalidSlope
 
 
 def is_whole(value):
@@ -18,6 +18,11 @@ def is_fraction(value):
     if not is_whole(number) or not is_whole(parts):
         return False
     return parts > 0 and gcd(number, parts) == 1
+
+
+def is_above_0(value):
+    """Whether the value is a fraction above 0."""
+    return is_fraction(value) and value[0] > 0
 
 
 def are_fractions(value):
@@ -42,3 +47,9 @@ def check_number(number, least, greatest):
     """Raise InvalidNumber for what is no whole number from the least to the greatest one."""
     if not is_whole(number) or number < least or number > greatest:
         raise InvalidNumber(number)
+
+
+def check_slope(slope):
+    """Raise InvalidSlope for what is no fraction above 0."""
+    if not is_above_0(slope):
+        raise InvalidSlope(slope)

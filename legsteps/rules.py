@@ -44,7 +44,7 @@ def second_of(rule):
 
 def whole_rule(rule):
     """A and B as whole numbers, both times the same number above 0."""
-    numbers, _ = cleared((*rule[0], *rule[1]))
+    numbers, _ = cleared(rule[0] + rule[1])
     many = len(rule[0])
     return numbers[:many], numbers[many:]
 

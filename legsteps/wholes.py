@@ -43,17 +43,33 @@ def rest_of(first, second):
     return trimmed(rest, 0)
 
 
-def divides(divisor, numbers):
-    """Whether the divisor, of reduced numbers, divides the polynomial of the numbers."""
+def exact_quotient(numbers, divisor):
+    """The quotient by the divisor if it has whole numbers and nothing is left, otherwise None."""
     rest = list(numbers)
+    found = []
     while len(rest) >= len(divisor):
         factor, left = divmod(rest.pop(), divisor[-1])
         if left:
-            return False
+            return None
+        found.append(factor)
         shift = len(rest) + 1 - len(divisor)
         for at, each in enumerate(divisor[:-1]):
             rest[shift + at] -= factor * each
-    return not any(rest)
+    return None if any(rest) else tuple(found[::-1])
+
+
+def divides(divisor, numbers):
+    """Whether the divisor, of reduced numbers, divides the polynomial of the numbers."""
+    return exact_quotient(numbers, divisor) is not None
+
+
+def product_of(numbers, other):
+    """The product, as a list; of two that are not nought it has all powers up to the last one of both."""
+    found = [0] * (len(numbers) + len(other) - 1)
+    for at, each in enumerate(numbers):
+        for to, behind in enumerate(other):
+            found[at + to] += each * behind
+    return found
 
 
 def inverse_of(number, prime):

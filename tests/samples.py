@@ -13,6 +13,16 @@ HALVES, LEAP = (LESS_ONE, (HALF, HALF)), (((-1, 1), NIL, ONE), (NIL, TWO, NIL))
 TWIN, WILD = ((HALF, (-2, 1), (3, 2)), (NIL, NIL, ONE)), (((-5, 1), (4, 1), ONE), (TWO, (4, 1), NIL))
 FLAT, SLOW = ((ONE, ONE), (ONE, NIL)), (LESS_ONE, (TWO, NIL))
 THREE = (((-1, 3), (3, 2), (-3, 1), (11, 6)), (NIL, NIL, NIL, ONE))
+# It damps all numbers below 0 but one that is no fraction: there (at two turns) roots touch the circle from inside. Its
+# side wave by sin t is (c c + 5 c - 1) squared times (3 + 8 c + 6 c c), with c = cos t.
+TOUCHING = (
+    ((3, 32), (17, 8), (457, 32), (111, 4), (1313, 32), (305, 8), (955, 32), (69, 4)), (NIL,) * 7 + (ONE,),
+)
+# It damps all numbers below 0 but two: one that is no fraction, and - 39 / 8. Its side wave by sin t is (c c + 6 c - 2)
+# squared times (5 c + 4) squared times 2.
+TOUCHING_TWICE = (
+    ((25, 32), (85, 4), (5309, 32), (303, 1), (10209, 32), (1273, 4), (9021, 32), (1001, 8)), (NIL,) * 7 + (ONE,),
+)
 
 
 class Sly:

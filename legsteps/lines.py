@@ -1,0 +1,147 @@
+"""Real roots of polynomials with whole numbers, each one told by a span, and the gaps between them.
+
+A place is a pair (n, m) of whole numbers for n / m, m above 0, reduced or not. A span is a pair of places (low, high):
+just one root is above low and not above high, and low itself is no root. The polynomials have single roots, but for
+single_roots.
+"""
+
+from legsteps.arithmetic import as_fraction
+from legsteps.chains import changes_of, signed_chain, slopes_of
+from legsteps.wholes import common_wholes, exact_quotient, reduced_wholes
+
+
+def single_roots(numbers):
+    """The polynomial with the same roots, each of them once; the given one is not nought."""
+    numbers = reduced_wholes(numbers)
+    return exact_quotient(numbers, common_wholes(numbers, reduced_wholes(slopes_of(numbers))))
+
+
+def with_nought(numbers):
+    """The polynomial with the same roots and with the root 0."""
+    return numbers if numbers[0] == 0 else (0, *numbers)
+
+
+def told_at(numbers, place):
+    """What the polynomial tells at the place, times a number above 0: m to the power of the degree."""
+    number, parts = place
+    found, scale = 0, 1
+    for each in reversed(numbers):
+        found = found * number + each * scale
+        scale = scale * parts
+    return found
+
+
+def changes_at(chain, place):
+    """The changes of sign of the chain at the place; up to a later place they get less by the roots passed."""
+    return changes_of([told_at(each, place) for each in chain])
+
+
+def power_of_two(power):
+    """The place of 2 to this power, below 0, too."""
+    return (1 << power, 1) if power >= 0 else (1, 1 << -power)
+
+
+def outer_bound(numbers):
+    """A power of 2 that is above all roots, and less than which is below them."""
+    most = max([each.bit_length() for each in numbers])
+    return power_of_two(most - numbers[-1].bit_length() + 2)
+
+
+def inner_bound(numbers):
+    """A power of 2 below the size of all roots but 0."""
+    most = max([each.bit_length() for each in numbers])
+    least = numbers[0] if numbers[0] != 0 else numbers[1]
+    return power_of_two(least.bit_length() - most - 2)
+
+
+def middle(low, high, inner):
+    """A place between two places, both from 0 on or both up to 0, whose m are powers of 2.
+
+    Far from one another they are parted by their powers of 2, so that roots near 0 and great ones are soon found.
+    """
+    if low[0] < 0:
+        number, parts = middle((-high[0], high[1]), (-low[0], low[1]), inner)
+        return (-number, parts)
+    if low[0] == 0:
+        return inner
+    near, far = [number.bit_length() - parts.bit_length() for number, parts in (low, high)]
+    if far - near > 1:
+        return power_of_two((near + far + 1) // 2)
+    parts = max(low[1], high[1])
+    return (low[0] * (parts // low[1]) + high[0] * (parts // high[1]), 2 * parts)
+
+
+def root_spans(numbers):
+    """The spans of all real roots, ascending, those ahead up to the low place of those behind."""
+    chain = signed_chain(numbers, slopes_of(numbers))
+    far, inner = outer_bound(numbers), inner_bound(numbers)
+    marks = [(place, changes_at(chain, place)) for place in ((-far[0], far[1]), (0, 1), far)]
+    todo = [(marks[1], marks[2]), (marks[0], marks[1])]
+    found = []
+    while todo:
+        (low, before), (high, behind) = todo.pop()
+        if before - behind == 1 and told_at(numbers, low) != 0:
+            found.append((low, high))
+        elif before > behind:
+            place = middle(low, high, inner)
+            mark = (place, changes_at(chain, place))
+            todo.append((mark, (high, behind)))
+            todo.append(((low, before), mark))
+    return found
+
+
+def gap_places(spans):
+    """A place in each gap: below the first root, between each two neighbours, above the last one."""
+    if not spans:
+        return [(0, 1)]
+    number, parts = spans[-1][1]
+    return [low for low, _ in spans] + [(number + parts, parts)]
+
+
+def has_root_in(numbers, span):
+    """Whether the polynomial, which has one root there at most, has one in the span."""
+    below, above = told_at(numbers, span[0]), told_at(numbers, span[1])
+    return above == 0 or (below > 0) != (above > 0)
+
+
+def whole_below(numbers, low, high, is_above):
+    """The greatest whole number that is not above the root; low is not above it, high is.
+
+    Between low and high the worths are above 0 up to the root and below 0 behind it, or the other way round.
+    """
+    parts = 2
+    while high - low > 1:
+        # The straight line tells where the root is near; the better it told, the less is looked at around that place.
+        left, right = abs(told_at(numbers, (low, 1))), abs(told_at(numbers, (high, 1)))
+        guess = low + (high - low) * left // max(1, left + right)
+        around = max(1, (high - low) // parts)
+        for mark in (guess - around, guess + around, (low + high) // 2):
+            if low < mark < high:
+                worth = told_at(numbers, (mark, 1))
+                if worth == 0 or (worth > 0) == is_above:
+                    low = mark
+                else:
+                    high = mark
+        parts = parts * parts if high - low <= 2 * around else 2
+    return low
+
+
+def near_root(numbers, span, many):
+    """The pair of the greatest whole number n such that n / many is not above the root, and whether it is the root."""
+    (low, below), (high, above) = span
+    wide, scale = [], 1
+    for each in reversed(numbers):
+        wide.append(each * scale)
+        scale = scale * many
+    wide = wide[::-1]
+    least = low * many // below
+    found = whole_below(wide, least, high * many // above + 1, told_at(numbers, span[0]) > 0)
+    return (found, found > least and told_at(wide, (found, 1)) == 0)
+
+
+def fraction_root(numbers, span):
+    """The root in the span if it is a fraction, otherwise None."""
+    # Its m divides the last number.
+    many = abs(numbers[-1])
+    found, is_just = near_root(numbers, span, many)
+    return as_fraction(found, many) if is_just else None
