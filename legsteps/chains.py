@@ -1,7 +1,7 @@
 """Rows of rests of polynomials with whole numbers, and the changes of sign in them (Sturm)."""
 
 from legsteps.arithmetic import power_of
-from legsteps.wholes import reduced_wholes, rest_of
+from legsteps.wholes import exact_parts, reduced_wholes, rest_of
 
 
 def slopes_of(numbers):
@@ -23,7 +23,7 @@ def signed_chain(first, second):
         divisor = lead * power_of(scale, more)
         if second[-1] > 0 or more % 2 == 1:
             divisor = -divisor
-        first, second = second, tuple([each // divisor for each in rest_of(first, second)])
+        first, second = second, exact_parts(rest_of(first, second), divisor)
         lead = abs(first[-1])
         if more > 0:
             scale = power_of(lead, more) // power_of(scale, more - 1)

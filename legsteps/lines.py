@@ -54,6 +54,12 @@ def inner_bound(numbers):
     return power_of_two(least.bit_length() - most - 2)
 
 
+def mean_of(low, high):
+    """The place halfway between two places whose m are powers of 2."""
+    parts = max(low[1], high[1])
+    return (low[0] * (parts // low[1]) + high[0] * (parts // high[1]), 2 * parts)
+
+
 def middle(low, high, inner):
     """A place between two places, both from 0 on or both up to 0, whose m are powers of 2.
 
@@ -65,10 +71,7 @@ def middle(low, high, inner):
     if low[0] == 0:
         return inner
     near, far = [number.bit_length() - parts.bit_length() for number, parts in (low, high)]
-    if far - near > 1:
-        return power_of_two((near + far + 1) // 2)
-    parts = max(low[1], high[1])
-    return (low[0] * (parts // low[1]) + high[0] * (parts // high[1]), 2 * parts)
+    return mean_of(low, high) if far - near < 2 else power_of_two((near + far + 1) // 2)
 
 
 def root_spans(numbers):
@@ -88,6 +91,36 @@ def root_spans(numbers):
             todo.append((mark, (high, behind)))
             todo.append(((low, before), mark))
     return found
+
+
+def halved(numbers, span):
+    """A span of the same root, half as wide."""
+    low, high = span
+    place = mean_of(low, high)
+    return (low, place) if has_root_in(numbers, (low, place)) else (place, high)
+
+
+def is_ahead(numbers, span, other):
+    """Whether the root in the span is below the low place of the other span, which is not within the span."""
+    (number, parts), (low, below) = span[1], other[0]
+    if number * below == low * parts:
+        return told_at(numbers, span[1]) != 0
+    return number * below < low * parts
+
+
+def joined_spans(numbers, other):
+    """The spans of the roots of two polynomials that have none in common, as those of the product."""
+    first, second = root_spans(numbers)[::-1], root_spans(other)[::-1]
+    found = []
+    # To part roots that are next to one another by a polynomial for each costs less than to do so by their product.
+    while first and second:
+        if is_ahead(numbers, first[-1], second[-1]):
+            found.append(first.pop())
+        elif is_ahead(other, second[-1], first[-1]):
+            found.append(second.pop())
+        else:
+            first[-1], second[-1] = halved(numbers, first[-1]), halved(other, second[-1])
+    return found + first[::-1] + second[::-1]
 
 
 def gap_places(spans):

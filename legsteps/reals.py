@@ -1,12 +1,12 @@
 """Which real numbers q a rule damps: its real stretches."""
 
 from legsteps.arithmetic import NOUGHT, as_fraction
-from legsteps.lines import fraction_root, gap_places, has_root_in, near_root, root_spans, single_roots, with_nought
+from legsteps.lines import fraction_root, gap_places, has_root_in, joined_spans, near_root, root_spans, with_nought
 from legsteps.numbers import check_number
 from legsteps.rims import rim_numbers
 from legsteps.rules import check_rule
 from legsteps.spots import point_word
-from legsteps.wholes import product_of
+from legsteps.wholes import common_wholes, exact_quotient, product_of
 
 
 def damps_at(rule, place):
@@ -57,8 +57,8 @@ def partings(rule, other):
     The gaps are those between the ends of both rules.
     """
     ours, theirs = rim_numbers(rule), rim_numbers(other)
-    numbers = single_roots(product_of(ours, theirs))
-    spans = root_spans(numbers)
+    others = exact_quotient(theirs, common_wholes(ours, theirs))
+    spans = joined_spans(ours, others)
     words = [(place, damps_at(rule, place), damps_at(other, place)) for place in gap_places(spans)]
     ends = []
     for span, (_, first, second) in zip(spans, words):
@@ -67,7 +67,7 @@ def partings(rule, other):
         second = second and not has_root_in(theirs, span)
         if first != second:
             ends.append(span)
-    return [place for place, first, second in words if first != second], numbers, ends
+    return [place for place, first, second in words if first != second], product_of(ours, others), ends
 
 
 def are_damped_alike(rule, other):

@@ -5,6 +5,9 @@ from math import gcd, lcm
 # Those p for which 2 to the power p, less 1, is a prime number, and each is well above the one before it.
 PRIME_POWERS = (61, 127, 521, 1279, 4423, 9941, 21701, 44497, 86243, 216091)
 
+# From how many bits on a divisor is taken as a wide one.
+WIDE = 8000
+
 
 def trimmed(numbers, nought):
     """The tuple of the numbers without the noughts at the end."""
@@ -22,12 +25,44 @@ def cleared(polynomial):
     return tuple([number * (parts // each) for number, each in polynomial]), parts
 
 
+def inverse_by_twos(odd, bits):
+    """The whole number whose product with the odd one leaves 1 by 2 to the power of the bits, which are 3 or more."""
+    known, inverse = 3, odd & 7
+    while known < bits:
+        # Each time it is right for twice as many bits.
+        known = min(2 * known, bits)
+        mask = (1 << known) - 1
+        inverse = (inverse * (2 - (odd & mask) * inverse)) & mask
+    return inverse
+
+
+def wide_parts(numbers, divisor):
+    """The numbers, not all of them 0, divided by the divisor, which divides all of them."""
+    twos = (divisor & -divisor).bit_length() - 1
+    bits = max([each.bit_length() for each in numbers]) - divisor.bit_length() + 3
+    mask = (1 << bits) - 1
+    inverse = inverse_by_twos((divisor >> twos) & mask, bits)
+    found = []
+    for each in numbers:
+        part = (((each >> twos) & mask) * inverse) & mask
+        found.append(part - mask - 1 if part >> (bits - 1) else part)
+    return found
+
+
+def exact_parts(numbers, divisor):
+    """The tuple of the numbers divided by the divisor, which divides all of them."""
+    # Python's own way takes time that grows with the square of the length; what is left by powers of 2 does not.
+    if divisor.bit_length() < WIDE or not any(numbers):
+        return tuple([each // divisor for each in numbers])
+    return tuple(wide_parts(numbers, divisor))
+
+
 def reduced_wholes(numbers):
     """The numbers divided by the greatest whole number that divides all of them."""
     shared = 0
     for each in numbers:
         shared = gcd(shared, each)
-    return tuple([each // shared for each in numbers])
+    return exact_parts(numbers, shared)
 
 
 def rest_of(first, second):

@@ -8,7 +8,7 @@ from random import Random
 
 from legsteps.chains import real_counts
 from legsteps.lines import (
-    fraction_root, gap_places, has_root_in, near_root, root_spans, single_roots, told_at, with_nought,
+    fraction_root, gap_places, has_root_in, joined_spans, near_root, root_spans, single_roots, told_at, with_nought,
 )
 from legsteps.rims import determinant, pairs_product, rim_numbers, rim_worth, through
 from legsteps.wholes import exact_quotient, product_of as wholes_product
@@ -112,6 +112,30 @@ class Spans(unittest.TestCase):
         for at, root in enumerate((Fraction(-1, 3), Fraction(1), Fraction(2))):
             told = [has_root_in((-root.numerator, root.denominator), span) for span in spans]
             self.assertEqual(told, [at == each for each in range(3)])
+
+    def test_spans_of_two_polynomials(self):
+        small = Fraction(1, 10 ** 50)
+        random = Random(25)
+        rows = [([0, 1], [2, -1]), ([], [1]), ([1], []), ([], []), ([0], [small]), ([small], [0]), ([-small], [0, small]),
+                ([1, 1 + small], [1 - small, 1 + 2 * small]), ([-2, -2 + small], [-2 - small, 3]), ([1, 2, 4], [3, 5, 6]),
+                ([1], [1 + small]), ([1 + small], [1]), ([2, 8], [2 - small, 8 + small]), ([-4, -1], [-4 + small, -1 + small])]
+        for _ in range(60):
+            drawn = sorted({Fraction(random.randint(-20, 20), random.randint(1, 6)) for _ in range(7)})
+            random.shuffle(drawn)
+            rows.append((drawn[:3], drawn[3:]))
+        for first, second in rows:
+            first, second = sorted(map(Fraction, first)), sorted(map(Fraction, second))
+            ours, theirs = [wholes_of((1, 0, 1), *[(-root.numerator, root.denominator) for root in row]) for row in (first, second)]
+            spans = joined_spans(ours, theirs)
+            roots = sorted(first + second)
+            self.assertEqual(len(spans), len(roots))
+            for root, (low, high) in zip(roots, spans):
+                self.assertTrue(python_place(low) < root <= python_place(high))
+            places = [python_place(each) for each in gap_places(spans)]
+            for root, below, above in zip(roots, places, places[1:]):
+                self.assertTrue(below < root < above)
+            for root, span in zip(roots, spans):
+                self.assertEqual((has_root_in(ours, span), has_root_in(theirs, span)), (root in first, root in second))
 
     def test_quotients(self):
         self.assertEqual(exact_quotient(wholes_of((1, 2), (3, 0, 5)), (1, 2)), (3, 0, 5))

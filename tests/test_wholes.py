@@ -1,9 +1,11 @@
 """The helpers over polynomials with whole numbers."""
 
 import unittest
+from random import Random
 
 from legsteps.wholes import (
-    PRIME_POWERS, cleared, common_by_rests, common_wholes, divides, inverse_of, modulo, reduced_wholes, rest_of, trimmed,
+    PRIME_POWERS, cleared, common_by_rests, common_wholes, divides, exact_parts, inverse_by_twos, inverse_of, modulo,
+    reduced_wholes, rest_of, trimmed, wide_parts,
 )
 from samples import HALF, ONE, TWO, some_polynomials
 
@@ -45,6 +47,29 @@ class Wholes(unittest.TestCase):
         self.assertFalse(divides((1, 2), (1, 3)))
         self.assertFalse(divides((1, 1, 1), (1, 1)))
         self.assertTrue(divides((-1,), (3, 5)))
+
+    def test_exact_parts(self):
+        random = Random(71)
+        for bits in (1, 2, 3, 60, 7998, 7999, 8000, 8001, 20000):
+            for _ in range(12):
+                divisor = random.choice((1, -1)) * (random.getrandbits(bits) | 1 << (bits - 1)) << random.choice((0, 0, 1, 70))
+                for length in (0, 1, 2, 90, 9000):
+                    parts = [random.choice((1, -1)) * random.getrandbits(length + 1) for _ in range(3)] + [0, 1, -1]
+                    numbers = [each * divisor for each in parts]
+                    self.assertEqual(exact_parts(numbers, divisor), tuple(parts))
+                    if bits > 1000:
+                        self.assertEqual(wide_parts(numbers, divisor), parts)
+                self.assertEqual(exact_parts([0, 0], divisor), (0, 0))
+        self.assertEqual(exact_parts((), 0), ())
+        great = 3 ** 9000
+        self.assertEqual(reduced_wholes((4 * great, 0, -6 * great)), (2, 0, -3))
+
+    def test_inverses_by_twos(self):
+        for bits in (3, 4, 5, 7, 64, 1000):
+            for odd in (1, -1, 3, 5, 7, 12345, -987654321, 3 ** 500):
+                found = inverse_by_twos(odd, bits)
+                self.assertEqual(found * odd % 2 ** bits, 1)
+                self.assertIn(found, range(2 ** bits))
 
     def test_inverses(self):
         for prime in (2, 3, 7, 127, (1 << 61) - 1):
