@@ -50,8 +50,7 @@ def outer_bound(numbers):
 def inner_bound(numbers):
     """A power of 2 below the size of all roots but 0."""
     most = max([each.bit_length() for each in numbers])
-    least = numbers[0] if numbers[0] != 0 else numbers[1]
-    return power_of_two(least.bit_length() - most - 2)
+    return power_of_two(numbers[0].bit_length() - most - 2)
 
 
 def mean_of(low, high):
@@ -100,11 +99,9 @@ def halved(numbers, span):
     return (low, place) if has_root_in(numbers, (low, place)) else (place, high)
 
 
-def is_ahead(numbers, span, other):
-    """Whether the root in the span is below the low place of the other span, which is not within the span."""
+def is_ahead(span, other):
+    """Whether all of the span lies below the low place of the other one."""
     (number, parts), (low, below) = span[1], other[0]
-    if number * below == low * parts:
-        return told_at(numbers, span[1]) != 0
     return number * below < low * parts
 
 
@@ -114,9 +111,9 @@ def joined_spans(numbers, other):
     found = []
     # To part roots that are next to one another by a polynomial for each costs less than to do so by their product.
     while first and second:
-        if is_ahead(numbers, first[-1], second[-1]):
+        if is_ahead(first[-1], second[-1]):
             found.append(first.pop())
-        elif is_ahead(other, second[-1], first[-1]):
+        elif is_ahead(second[-1], first[-1]):
             found.append(second.pop())
         else:
             first[-1], second[-1] = halved(numbers, first[-1]), halved(other, second[-1])

@@ -59,15 +59,15 @@ def partings(rule, other):
     ours, theirs = rim_numbers(rule), rim_numbers(other)
     others = exact_quotient(theirs, common_wholes(ours, theirs))
     spans = joined_spans(ours, others)
-    words = [(place, damps_at(rule, place), damps_at(other, place)) for place in gap_places(spans)]
+    places = gap_places(spans)
+    words = [(damps_at(rule, place), damps_at(other, place)) for place in places]
     ends = []
-    for span, (_, first, second) in zip(spans, words):
+    for span, (first, second) in zip(spans, words):
         # What is no end of a rule is damped by it like the gap ahead.
-        first = first and not has_root_in(ours, span)
-        second = second and not has_root_in(theirs, span)
-        if first != second:
+        if (first and not has_root_in(ours, span)) != (second and not has_root_in(theirs, span)):
             ends.append(span)
-    return [place for place, first, second in words if first != second], product_of(ours, others), ends
+    gaps = [place for place, (first, second) in zip(places, words) if first != second]
+    return gaps, product_of(ours, others), ends
 
 
 def are_damped_alike(rule, other):
