@@ -5,7 +5,7 @@ from math import factorial
 from legsteps.arithmetic import NOUGHT, power_of, quotient_of, raw_product, sum_of
 from legsteps.errors import InvalidRule
 from legsteps.numbers import are_fractions, check_number
-from legsteps.wholes import cleared, trimmed
+from legsteps.wholes import cleared, reduced_wholes, trimmed
 
 
 def is_rule(value):
@@ -43,8 +43,8 @@ def second_of(rule):
 
 
 def whole_rule(rule):
-    """A and B as whole numbers, both times the same number above 0."""
-    numbers, _ = cleared(rule[0] + rule[1])
+    """A and B as whole numbers, all of them times the same number above 0, and reduced."""
+    numbers = reduced_wholes(cleared(rule[0] + rule[1])[0])
     many = len(rule[0])
     return numbers[:many], numbers[many:]
 

@@ -148,6 +148,11 @@ def product_of(*factors):
     return found
 
 
+def times_both(rule, *factors):
+    """The rule times a polynomial, which is told by factors."""
+    return rule_of(*[product_of([python_of(each) for each in row], *factors) for row in rule])
+
+
 def near_roots(numbers):
     """The roots of a polynomial with complex numbers, near (Durand and Kerner); the last number is not 0."""
     numbers = [complex(each) / complex(numbers[-1]) for each in numbers]

@@ -14,9 +14,10 @@ from legsteps.numbers import is_point
 from legsteps.polys import worth
 from legsteps.rules import first_of, second_of
 from legsteps.spots import point_word
+from legsteps.wedges import greatest_from, laid_waves, likely_slope
 from samples import (
-    BACK_EULER, EULER, FLAT, HALVES, HUGE, LEAP, NIL, ONE, SLOW, THREE, TWIN, TWO, WILD, pair_of, polynomial_of, product_of,
-    python_of, rule_of, scaled, some_rules,
+    BACK_EULER, EULER, FLAT, HALVES, HUGE, LEAP, NIL, ONE, SLOW, THREE, TWIN, TWO, WILD, pair_of, polynomial_of, python_of,
+    rule_of, scaled, some_rules, times_both,
 )
 from wrongs import ODD_PAIRS, ODD_ROWS, ODD_RULES, ODD_VALUES, WrongCase, odd_numbers
 
@@ -27,10 +28,6 @@ STEEP = (HUGE, 1)
 def mixed(share):
     """The rule of one step with this share of the new slope: safe for a share from a half on."""
     return rule_of((-1, 1), (1 - share, share))
-
-
-def times_both(rule, *factors):
-    return rule_of(*[product_of([python_of(each) for each in row], *factors) for row in rule])
 
 
 def wedge_rules(many, seed=41):
@@ -122,7 +119,7 @@ class Safe(unittest.TestCase):
 
     def test_below_0_at_one_turn_between(self):
         # The real wave is the square of 2 c - 1, by 4, or next to it: w is 1 / z, and q is a + b w + w w / 2.
-        for shift, safe in ((0, True), (Fraction(1, 10 ** 30), True), (Fraction(-1, 10 ** 30), False)):
+        for shift, safe in ((0, True), (Fraction(1, HUGE), True), (Fraction(-1, HUGE), False), (Fraction(-1, 10 ** 30), False)):
             self.check(rule_of((Fraction(1, 2), -1, Fraction(3, 4) + shift), (0, 0, 1)), safe)
 
     def test_second_polynomials_that_are_nought(self):
@@ -196,6 +193,7 @@ class Wedges(unittest.TestCase):
         # The angles of the backward rules as they are told in books.
         for steps, angle in ((3, 86.03), (4, 73.35), (5, 51.84), (6, 17.84)):
             found = self.check_near(backward(steps), 10 ** 6)
+            self.assertEqual(likely_slope(laid_waves(backward(steps)), 10 ** 6), found)
             self.assertTrue(tan(radians(angle - 0.01)) < found / 10 ** 6 < tan(radians(angle + 0.01)))
 
     def test_a_greatest_slope_that_is_a_fraction(self):
@@ -227,6 +225,21 @@ class Wedges(unittest.TestCase):
         self.assertEqual(slope_near(backward(6), 4), 1)
         self.check_safe(backward(6), (1, 4))
         self.check_unsafe(backward(6), (1, 3))
+
+    def test_great_slopes(self):
+        for power in (1, 5, 30, 120):
+            rule = rule_of((Fraction(1, 2), -1, Fraction(3, 4) - Fraction(1, 10 ** power)), (0, 0, 1))
+            for many in (1, 10 ** 12):
+                self.assertGreater(self.check_near(rule, many), 10 ** (power - 2) * many)
+
+    def test_slopes_that_are_not_told_by_steady_places(self):
+        # Whatever is thought to be likely, the answer is the same.
+        for rule in wedge_rules(30) + [THREE, backward(5)]:
+            waves = laid_waves(rule)
+            if not is_safe(rule) and slope_near(rule, 10):
+                told = slope_near(rule, 10)
+                for guess in (0, 1, told - 1, told, told + 1, 3 * told + 100, 10 ** 6):
+                    self.assertEqual(greatest_from(waves, 10, max(0, guess)), told)
 
     def test_lesser_and_greater_slopes(self):
         for many in (7, 1000):

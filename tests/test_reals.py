@@ -13,7 +13,7 @@ from legsteps.reals import are_damped_alike, damps_all, parting_real, stretches,
 from legsteps.spots import point_word
 from samples import (
     BACK_EULER, EULER, HALF, HALVES, HUGE, LEAP, LESS_ONE, NIL, ONE, THREE, TOUCHING, TOUCHING_TWICE, TWIN, TWO, WILD, pair_of,
-    product_of, python_of, rule_of, scaled, some_rules,
+    product_of, python_of, rule_of, scaled, some_rules, times_both,
 )
 from wrongs import ODD_RULES, WrongCase, odd_numbers
 
@@ -24,11 +24,6 @@ MANY = 10 ** 6
 
 def damps(rule, number):
     return point_word(rule, (pair_of(number), NIL)) == "damped"
-
-
-def times_both(rule, *factors):
-    """The rule times a polynomial."""
-    return rule_of(*[product_of([python_of(each) for each in row], *factors) for row in rule])
 
 
 def told_by_hand(rule):

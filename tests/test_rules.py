@@ -97,6 +97,8 @@ class Rules(unittest.TestCase):
     def test_whole_numbers(self):
         self.assertEqual(whole_rule(TWIN), ((1, -4, 3), (0, 0, 2)))
         self.assertEqual(whole_rule(((ONE, ONE), (HALF, (1, 3)))), ((6, 6), (3, 2)))
+        self.assertEqual(whole_rule(scaled(TWIN, HUGE)), whole_rule(TWIN))
+        self.assertEqual(whole_rule(scaled(TWIN, -HUGE)), ((-1, 4, -3), (0, 0, -2)))
 
 
 class Orders(unittest.TestCase):
