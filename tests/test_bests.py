@@ -12,7 +12,7 @@ from legsteps.convergence import converges
 from legsteps.errors import InvalidNumber, InvalidPolynomial, LostStep, NotLevel, TooManySteps
 from legsteps.rules import defects, is_explicit, is_rule, order_of, steps_of
 from samples import (
-    BACK_EULER, EULER, HALF, HALVES, HUGE, LEAP, LESS_ONE, MORE_ONE, NIL, ONE, TWIN, TWO, WILD, pair_of, polynomial_of,
+    BACK_EULER, EULER, HALF, HALVES, HUGE, LEAP, LESS_ONE, MORE_ONE, NIL, ONE, TWIN, TWO, WILD, polynomial_of,
     product_of, rule_of, some_rules,
 )
 from wrongs import ODD_POLYNOMIALS, WrongCase, odd_numbers

@@ -12,8 +12,8 @@ from legsteps.numbers import is_fraction
 from legsteps.reals import are_damped_alike, damps_all, parting_real, stretches, undamped_below
 from legsteps.spots import point_word
 from samples import (
-    BACK_EULER, EULER, HALF, HALVES, HUGE, LEAP, LESS_ONE, NIL, ONE, THREE, TOUCHING, TOUCHING_TWICE, TWIN, TWO, WILD, pair_of,
-    product_of, python_of, rule_of, scaled, some_rules, times_both,
+    BACK_EULER, EULER, HALVES, HUGE, LEAP, NIL, THREE, TOUCHING, TOUCHING_TWICE, TWIN, WILD, pair_of, product_of,
+    python_of, rule_of, scaled, some_rules, times_both,
 )
 from wrongs import ODD_RULES, WrongCase, odd_numbers
 
