@@ -34,19 +34,29 @@ def why_not(rule):
     return None
 
 
-def still_values(row, starts, number):
-    """y_0 to y_number, the starts first, the row being the numbers A of a rule."""
-    factors = reduced_wholes(cleared(row)[0])
+def led_values(factors, starts, gains, below):
+    """The starts, and as many numbers behind them as there are gains.
+
+    From each place on the numbers times the factors, all added, are the gain told for this place, by the number below;
+    all these are whole numbers.
+    """
     lead = factors[-1]
     found = list(starts)
     # The last values are kept as whole numbers by one number in common, so that little has to be reduced.
-    last, parts = cleared(starts)
-    while len(found) <= number:
-        behind = -sum([factor * each for factor, each in zip(factors, last)])
+    numbers, parts = cleared([*starts, (1, below)])
+    last, scale = numbers[:-1], numbers[-1]
+    for gain in gains:
+        behind = gain * scale - sum([factor * each for factor, each in zip(factors, last)])
         last = [each * lead for each in last[1:]] + [behind]
-        parts = parts * lead
+        parts, scale = parts * lead, scale * lead
         found.append(as_fraction(behind, parts))
-    return tuple(found[:number + 1])
+    return tuple(found)
+
+
+def still_values(row, starts, number):
+    """y_0 to y_number, the starts first, the row being the numbers A of a rule."""
+    factors = reduced_wholes(cleared(row)[0])
+    return led_values(factors, starts, [0] * (number + 1 - len(starts)), 1)[:number + 1]
 
 
 def kernel(rule, number):

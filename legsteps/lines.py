@@ -6,7 +6,8 @@ single_roots.
 """
 
 from legsteps.arithmetic import as_fraction
-from legsteps.chains import changes_of, signed_chain, slopes_of
+from legsteps.chains import changes_of, slopes_of
+from legsteps.circle import shifted
 from legsteps.wholes import common_wholes, exact_quotient, reduced_wholes
 
 
@@ -31,9 +32,26 @@ def told_at(numbers, place):
     return found
 
 
-def changes_at(chain, place):
-    """The changes of sign of the chain at the place; up to a later place they get less by the roots passed."""
-    return changes_of([told_at(each, place) for each in chain])
+def widened(numbers, many):
+    """The polynomial whose roots are so many times those of this one; many is not 0."""
+    found, scale = [], 1
+    for each in reversed(numbers):
+        found.append(each * scale)
+        scale = scale * many
+    return found[::-1]
+
+
+def most_between(numbers, low, high):
+    """As many as there are roots between both places, or two more, or four, and so on: so 0 and 1 tell just as many.
+
+    That is how often the sign changes along the numbers of a polynomial in t: it tells at t, times a number above 0 if
+    t is above 0, what this one tells at (high + t * low) / (1 + t) (Descartes; Vincent; Collins and Akritas).
+    """
+    parts = max(low[1], high[1])
+    start = low[0] * (parts // low[1])
+    width = high[0] * (parts // high[1]) - start
+    above = shifted(widened(numbers, parts), start)
+    return changes_of(shifted(widened(above[::-1], width), 1))
 
 
 def power_of_two(power):
@@ -75,20 +93,20 @@ def middle(low, high, inner):
 
 def root_spans(numbers):
     """The spans of all real roots, ascending, those ahead up to the low place of those behind."""
-    chain = signed_chain(numbers, slopes_of(numbers))
     far, inner = outer_bound(numbers), inner_bound(numbers)
-    marks = [(place, changes_at(chain, place)) for place in ((-far[0], far[1]), (0, 1), far)]
-    todo = [(marks[1], marks[2]), (marks[0], marks[1])]
+    todo = [((0, 1), far), ((-far[0], far[1]), (0, 1))]
     found = []
     while todo:
-        (low, before), (high, behind) = todo.pop()
-        if before - behind == 1 and told_at(numbers, low) != 0:
+        low, high = todo.pop()
+        most = most_between(numbers, low, high)
+        if told_at(numbers, high) == 0:
+            most += 1
+        if most == 1 and told_at(numbers, low) != 0:
             found.append((low, high))
-        elif before > behind:
+        elif most > 0:
             place = middle(low, high, inner)
-            mark = (place, changes_at(chain, place))
-            todo.append((mark, (high, behind)))
-            todo.append(((low, before), mark))
+            todo.append((place, high))
+            todo.append((low, place))
     return found
 
 
@@ -159,14 +177,17 @@ def whole_below(numbers, low, high, is_above):
 def near_root(numbers, span, many):
     """The pair of the greatest whole number n such that n / many is not above the root, and whether it is the root."""
     (low, below), (high, above) = span
-    wide, scale = [], 1
-    for each in reversed(numbers):
-        wide.append(each * scale)
-        scale = scale * many
-    wide = wide[::-1]
+    wide = widened(numbers, many)
     least = low * many // below
     found = whole_below(wide, least, high * many // above + 1, told_at(numbers, span[0]) > 0)
     return (found, found > least and told_at(wide, (found, 1)) == 0)
+
+
+def near_gaps(numbers, many):
+    """A place in each gap, and the gap's ends, near for this number, None for no end."""
+    spans = root_spans(numbers)
+    ends = [None] + [near_root(numbers, span, many) for span in spans] + [None]
+    return list(zip(gap_places(spans), zip(ends, ends[1:])))
 
 
 def fraction_root(numbers, span):

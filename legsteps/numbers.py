@@ -2,7 +2,7 @@
 
 from math import gcd
 
-from legsteps.errors import InvalidNumber, InvalidPoint, InvalidSlope
+from legsteps.errors import InvalidFraction, InvalidNumber, InvalidPoint, InvalidRatio, InvalidSize, InvalidSlope
 
 
 def is_whole(value):
@@ -27,7 +27,7 @@ def is_above_0(value):
 
 def are_fractions(value):
     """Whether the value is a tuple of fractions, as many as may be."""
-    return isinstance(value, tuple) and all(is_fraction(each) for each in value)
+    return isinstance(value, tuple) and all([is_fraction(each) for each in value])
 
 
 def is_point(value):
@@ -35,6 +35,12 @@ def is_point(value):
     if not isinstance(value, tuple) or len(value) != 2:
         return False
     return is_fraction(value[0]) and is_fraction(value[1])
+
+
+def check_fraction(fraction):
+    """Raise InvalidFraction for what is no fraction."""
+    if not is_fraction(fraction):
+        raise InvalidFraction(fraction)
 
 
 def check_point(point):
@@ -53,3 +59,15 @@ def check_slope(slope):
     """Raise InvalidSlope for what is no fraction above 0."""
     if not is_above_0(slope):
         raise InvalidSlope(slope)
+
+
+def check_ratio(ratio):
+    """Raise InvalidRatio for what is no fraction above 0."""
+    if not is_above_0(ratio):
+        raise InvalidRatio(ratio)
+
+
+def check_size(size):
+    """Raise InvalidSize for what is no fraction above 0."""
+    if not is_above_0(size):
+        raise InvalidSize(size)

@@ -41,7 +41,12 @@ def times(polynomial, other):
     check_polynomial(other)
     if not polynomial or not other:
         return ()
-    return tuple([product_at(polynomial, other, power) for power in range(len(polynomial) + len(other) - 1)])
+    return product_row(polynomial, other)
+
+
+def product_row(row, other):
+    """The numbers of the product of two rows that are not empty, noughts at the end, too."""
+    return tuple([product_at(row, other, power) for power in range(len(row) + len(other) - 1)])
 
 
 def product_at(polynomial, other, power):

@@ -1,7 +1,7 @@
 """Which real numbers q a rule damps: its real stretches."""
 
 from legsteps.arithmetic import NOUGHT, as_fraction
-from legsteps.lines import fraction_root, gap_places, has_root_in, joined_spans, near_root, root_spans, with_nought
+from legsteps.lines import fraction_root, gap_places, has_root_in, joined_spans, near_gaps, root_spans, with_nought
 from legsteps.numbers import check_number
 from legsteps.rims import rim_numbers
 from legsteps.rules import check_rule
@@ -19,11 +19,7 @@ def stretches(rule, many):
     """The pairs of ends of the real stretches, ascending, each end near, None for no end."""
     check_rule(rule)
     check_number(many, 1, 10 ** 12)
-    numbers = rim_numbers(rule)
-    spans = root_spans(numbers)
-    ends = [None] + [near_root(numbers, span, many) for span in spans] + [None]
-    places = gap_places(spans)
-    return tuple([(ends[at], ends[at + 1]) for at, place in enumerate(places) if damps_at(rule, place)])
+    return tuple([ends for place, ends in near_gaps(rim_numbers(rule), many) if damps_at(rule, place)])
 
 
 def damps_all(rule):

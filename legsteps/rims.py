@@ -58,6 +58,13 @@ def through(worths):
     return trimmed(numbers, 0)
 
 
+def rims_through(worths):
+    """The polynomial that is worth these at 0, 1, 2 and so on, each of its roots but once; (1,) if it is nought."""
+    found = through(worths)
+    # If it is nought, a root is never inside, or two always have the product 1: nothing is damped anywhere.
+    return single_roots(found) if found else (1,)
+
+
 def rim_numbers(rule):
     """A polynomial at whose real roots nothing is damped, and in each gap between them all real numbers, or none.
 
@@ -68,6 +75,4 @@ def rim_numbers(rule):
     worths = []
     for number in range(len(first) + 2):
         worths.append(rim_worth([value - number * slope for value, slope in zip(first, second)]))
-    found = through(worths)
-    # If it is nought, a root is never inside, or two always have the product 1: nothing is damped anywhere.
-    return single_roots(found) if found else (1,)
+    return rims_through(worths)

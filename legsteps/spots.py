@@ -9,11 +9,16 @@ from legsteps.roots import counts_of
 from legsteps.rules import check_rule, second_of, whole_rule
 
 
-def tested(rule, point):
-    """The numbers of the test polynomial up to the power k, as rows of reals and turns, times one number above 0."""
+def whole_point(point):
+    """Whole numbers x, y and parts above 0: the point is x + i y by the parts."""
     (across, width), (along, height) = point
     parts = lcm(width, height)
-    across, along = across * (parts // width), along * (parts // height)
+    return across * (parts // width), along * (parts // height), parts
+
+
+def tested(rule, point):
+    """The numbers of the test polynomial up to the power k, as rows of reals and turns, times one number above 0."""
+    across, along, parts = whole_point(point)
     first, second = whole_rule(rule)
     reals = [parts * value - across * slope for value, slope in zip(first, second)]
     return reals, [-along * slope for slope in second]

@@ -14,16 +14,7 @@ from samples import (
     BACK_EULER, EULER, FLAT, HALF, HALVES, HUGE, LEAP, NIL, ONE, SLOW, THREE, TWIN, TWO, WILD, pair_of,
     product_of, python_of, rule_of, scaled, some_rules,
 )
-from wrongs import ODD_RULES, WrongCase, odd_numbers
-
-# What is no tuple of two elements, or not one of fractions, with the index of the error.
-ODD_STARTS = (
-    (None, None), (True, None), (0, None), ("ab", None), ([ONE, ONE], None), ((), None), ((ONE,), None), ((ONE, ONE, ONE), None),
-    ((None,), None), ({}, None), (range(2), None), ((None, None), 0), ((None, ONE), 0), ((ONE, None), 1), ((ONE, [1, 1]), 1),
-    (((2, 2), (3, 3)), 0), ((ONE, (3, 3)), 1), ((ONE, (0, 2)), 1), ((ONE, 1), 1), ((1, ONE), 0), ((ONE, (1, True)), 1), (ONE, 0),
-    ((NIL, (NIL, NIL)), 1), ((Fraction(1), ONE), 0), (((1, -1), ONE), 0), (((1, 0), ONE), 0), (((),) * 2, 0), ("", None),
-)
-
+from wrongs import ODD_RULES, ODD_STARTS, WrongCase, odd_numbers
 
 def told_run(row, starts, many):
     """So many numbers of the still run."""

@@ -3,6 +3,7 @@
 import unittest
 from fractions import Fraction
 
+from legsteps.errors import InvalidStarts
 from samples import FRACTIONS, HALF, HUGE, NIL, ODD_PAIRS, ODD_ROWS, ODD_VALUES, ONE, TWO
 
 ORIGIN = (NIL, NIL)
@@ -30,6 +31,18 @@ ODD_RULES = ODD_VALUES[:-1] + ODD_PAIRS + ODD_ROWS + FRACTIONS + (
 )
 
 
+# What is no tuple of two elements, or not one of fractions, with the index of the error.
+ODD_STARTS = (
+    (None, None), (True, None), (0, None), ("ab", None), ([ONE, ONE], None), ((), None), ((ONE,), None), ((ONE, ONE, ONE), None),
+    ((None,), None), ({}, None), (range(2), None), ((None, None), 0), ((None, ONE), 0), ((ONE, None), 1), ((ONE, [1, 1]), 1),
+    (((2, 2), (3, 3)), 0), ((ONE, (3, 3)), 1), ((ONE, (0, 2)), 1), ((ONE, 1), 1), ((1, ONE), 0), ((ONE, (1, True)), 1), (ONE, 0),
+    ((NIL, (NIL, NIL)), 1), ((Fraction(1), ONE), 0), (((1, -1), ONE), 0), (((1, 0), ONE), 0), (((),) * 2, 0), ("", None),
+)
+# None of these is a fraction; none of those that follow is a fraction above 0.
+ODD_FRACTIONS = ODD_VALUES + ODD_PAIRS + ODD_ROWS + (ORIGIN, (ONE,), (1, 2, 3), ((1,), (2,)))
+ODD_ABOVE_0 = ODD_FRACTIONS + (NIL, (-1, 1), (-1, 2), (-HUGE, 3), (-1, HUGE))
+
+
 def odd_numbers(least, greatest):
     """What is no whole number from the least to the greatest one."""
     numbers = [each for each in ODD_VALUES if isinstance(each, bool) or not isinstance(each, int)]
@@ -51,6 +64,25 @@ class WrongCase(unittest.TestCase):
             function(*told, **named)
         self.assertIs(caught.exception.__class__, kind)
         self.assertIs(caught.exception.index, index)
+
+    def check_order(self, function, good, bad):
+        """Of several wrong arguments the first one is told; `bad` has the class and what it keeps for each name."""
+        names = list(good)
+        self.assertEqual(list(bad), names)
+        for at, name in enumerate(names):
+            value, kind, told = bad[name]
+            row = [good[each] for each in names[:at]] + [bad[each][0] for each in names[at:]]
+            check = self.check_index if kind is InvalidStarts else self.check_raises
+            check(kind, told if kind is InvalidStarts else value, function, *row)
+            check(kind, told if kind is InvalidStarts else value, function, **dict(reversed(list(zip(names, row)))))
+
+    def check_odd(self, kind, odds, function, good, *names):
+        """Each of these values, for each of these parameters alone, leads to this class of errors, which keeps it."""
+        for odd in odds:
+            for name in names:
+                row = {**good, name: odd}
+                self.check_raises(kind, odd, function, *row.values())
+                self.check_raises(kind, odd, function, **dict(reversed(list(row.items()))))
 
     def check_bare(self, kind, function, *told, **named):
         """Just this class of errors is raised, without attributes."""
