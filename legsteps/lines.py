@@ -41,17 +41,27 @@ def widened(numbers, many):
     return found[::-1]
 
 
-def most_between(numbers, low, high):
-    """As many as there are roots between both places, or two more, or four, and so on: so 0 and 1 tell just as many.
-
-    That is how often the sign changes along the numbers of a polynomial in t: it tells at t, times a number above 0 if
-    t is above 0, what this one tells at (high + t * low) / (1 + t) (Descartes; Vincent; Collins and Akritas).
-    """
+def laid_between(numbers, low, high):
+    """The polynomial that tells at u, times a number above 0, what this one tells at low + u * (high - low)."""
     parts = max(low[1], high[1])
     start = low[0] * (parts // low[1])
     width = high[0] * (parts // high[1]) - start
-    above = shifted(widened(numbers, parts), start)
-    return changes_of(shifted(widened(above[::-1], width), 1))
+    return widened(shifted(widened(numbers, parts), start)[::-1], width)[::-1]
+
+
+def halves_of(laid):
+    """The same for the half next to low, and for that next to high."""
+    lower = widened(laid, 2)
+    return lower, shifted(lower, 1)
+
+
+def most_inside(laid):
+    """As many as there are roots between 0 and 1, or two more, or four, and so on: so 0 and 1 tell just as many.
+
+    That is how often the sign changes along the numbers of the polynomial in t that tells at t, times a number above 0
+    if t is above 0, what this one tells at 1 / (1 + t) (Descartes; Vincent; Collins and Akritas).
+    """
+    return changes_of(shifted(laid[::-1], 1))
 
 
 def power_of_two(power):
@@ -94,19 +104,25 @@ def middle(low, high, inner):
 def root_spans(numbers):
     """The spans of all real roots, ascending, those ahead up to the low place of those behind."""
     far, inner = outer_bound(numbers), inner_bound(numbers)
-    todo = [((0, 1), far), ((-far[0], far[1]), (0, 1))]
+    below = (-far[0], far[1])
+    todo = [((0, 1), far, laid_between(numbers, (0, 1), far)), (below, (0, 1), laid_between(numbers, below, (0, 1)))]
     found = []
     while todo:
-        low, high = todo.pop()
-        most = most_between(numbers, low, high)
-        if told_at(numbers, high) == 0:
+        low, high, laid = todo.pop()
+        most = most_inside(laid)
+        if sum(laid) == 0:
+            # Then high is a root.
             most += 1
-        if most == 1 and told_at(numbers, low) != 0:
+        if most == 1 and laid[0] != 0:
             found.append((low, high))
         elif most > 0:
             place = middle(low, high, inner)
-            todo.append((place, high))
-            todo.append((low, place))
+            if place == mean_of(low, high):
+                lower, upper = halves_of(laid)
+            else:
+                lower, upper = laid_between(numbers, low, place), laid_between(numbers, place, high)
+            todo.append((place, high, upper))
+            todo.append((low, place, lower))
     return found
 
 
@@ -187,7 +203,7 @@ def near_gaps(numbers, many):
     """A place in each gap, and the gap's ends, near for this number, None for no end."""
     spans = root_spans(numbers)
     ends = [None] + [near_root(numbers, span, many) for span in spans] + [None]
-    return list(zip(gap_places(spans), zip(ends, ends[1:])))
+    return [(place, (ends[at], ends[at + 1])) for at, place in enumerate(gap_places(spans))]
 
 
 def fraction_root(numbers, span):

@@ -122,7 +122,8 @@ def likely_slope(waves, many):
 
 def greatest_clear(waves, many):
     """The greatest whole number n such that the wedge of n / many is clear, where there is one."""
-    return greatest_from(waves, many, likely_slope(waves, many))
+    # Next to the turns (1, 0) and (-1, 0) points may come near the line, where no steady place tells it.
+    return greatest_from(waves, many, likely_slope(waves, many)) if is_clear(waves, 1, many) else 0
 
 
 def greatest_from(waves, many, guess):
