@@ -37,12 +37,15 @@ def check_pair_at(rule, other, corrections, point):
     check_pair(rule, other)
 
 
+def product_by(one, other):
+    """The product of two complex numbers."""
+    return (one[0] * other[0] - one[1] * other[1], one[0] * other[1] + one[1] * other[0])
+
+
 def joined(one, other, factor, weight):
     """The one times the factor, and the other one times the weight, added."""
-    (left, turn), (right, spin) = one, other
-    (real, side), (more, aside) = factor, weight
-    return (left * real - turn * side + right * more - spin * aside,
-            left * side + turn * real + right * aside + spin * more)
+    left, right = product_by(one, factor), product_by(other, weight)
+    return (left[0] + right[0], left[1] + right[1])
 
 
 def weights_of(other, corrections, point):
@@ -60,7 +63,7 @@ def weights_of(other, corrections, point):
     total, power = (0, 0), (1, 0)
     for _ in range(corrections):
         total = joined(total, power, lead, (1, 0))
-        power = joined(power, (0, 0), turn, (0, 0))
+        power = product_by(power, turn)
     return total, (shared * power[0], shared * power[1])
 
 

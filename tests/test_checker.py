@@ -249,7 +249,7 @@ class Refused(CheckerCase):
                 self.check(("pair", EULER, HALVES, odd, LEFT, word), (), False)
 
     def test_claims_and_papers_of_any_sort(self):
-        for odd in ODD + FRACTIONS + ODD_RULES + (nested(13), ((((),),),), "safe", ("safe",), ("safe", None), ("safe", EULER, EULER), (("safe", EULER), ())):
+        for odd in ODD + FRACTIONS + ODD_RULES + ((), nested(1), nested(13), ((((),),),), "safe", ("safe",), ("safe", None), ("safe", EULER, EULER), (("safe", EULER), ())):
             for paper in PAPERS + ODD_VALUES:
                 self.check(odd, paper, False)
         for word in WORDS:

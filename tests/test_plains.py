@@ -117,6 +117,8 @@ class Greatest(PlainCase):
         self.check_multiples(rule_of((0, -1, 1), (Fraction(1, HUGE), 1, 1)), None)
         self.check_multiples(rule_of((1, -2, 1), (0, 0, 0)), None)
         self.check_multiples(rule_of((1, -2, 1), (1, 1, 1)), None)
+        self.check_multiples(rule_of((-2, 1, 1), (0, 0, 0)), None)
+        self.check_multiples(rule_of((-2, 1, 1), (1, 0, 1)), None)
         self.check_multiples(rule_of((Fraction(1, HUGE), -1 - Fraction(1, HUGE), 1), (0, 1, 1)), None)
 
     def test_where_the_least_stands_at_each_place(self):
@@ -254,7 +256,7 @@ class Raising(PlainCase):
                 self.assertIs(is_raising(EULER, TWO, value), False)
                 self.assertIs(is_raising(value=value, ratio=TWO, rule=EULER), False)
         for value in (list(self.PLAY), (middle, list(values), slopes), (middle, values, list(slopes)), self.PLAY + (NIL,), self.PLAY[:2],
-                      (middle, values + (NIL,), slopes), (middle, values, slopes + (NIL,)), (middle, values + (NIL,), slopes + (NIL,)),
+                      (middle, values + (NIL,), slopes), (middle, values + slopes[:1], slopes[1:] + (NIL,)), (middle, values, slopes + (NIL,)), (middle, values + (NIL,), slopes + (NIL,)),
                       (middle, values[:1], slopes[:1]), (middle, (), ()), ((0, 2), values, slopes), (middle, ((2, 2), values[1]), slopes),
                       (middle, (ONE, (-6, 2)), slopes), (middle, values, ((-4, 2), NIL)), (middle, values, ((-2, 1), (0, 3)))):
             self.assertIs(is_raising(EULER, TWO, value), False)

@@ -19,8 +19,8 @@ from legsteps.rules import order_of
 from legsteps.spots import point_word
 from legsteps.workshops import Workshop
 from samples import (
-    BACK_EULER, EULER, FLAT, FRACTIONS, HALF, HALVES, HUGE, LEAP, NIL, ODD_PAIRS, ODD_ROWS, ODD_VALUES, ONE, SLOW, THREE, TOUCHING,
-    TWIN, TWO, WILD, rule_of, scaled,
+    BACK_EULER, EULER, FLAT, FRACTIONS, HALF, HALVES, HUGE, Hostile, LEAP, NIL, ODD_PAIRS, ODD_ROWS, ODD_VALUES, ONE, SLOW, Sly, THREE,
+    TOUCHING, TWIN, TWO, WILD, rule_of, scaled,
 )
 from wrongs import ODD_ABOVE_0, ODD_POINTS, ODD_RULES, ORIGIN, WrongCase, odd_numbers
 
@@ -39,7 +39,7 @@ FORMS = (
 ODD_WISHES = ODD_VALUES + ODD_PAIRS + ODD_ROWS + FRACTIONS + tuple(list(each) for each in FORMS) + tuple(
     each + (None,) for each in FORMS) + tuple(each[:-1] for each in FORMS) + tuple(
     (each[0], name) + each[2:] for each in FORMS for name in ODD_NAMES) + tuple(
-    (word,) + each[1:] for each in FORMS for word in ("", "Safe", "safe ", " safe", "unsafe", "keep", b"safe", 1, None, ("safe",), ["safe"])
+    (word,) + each[1:] for each in FORMS for word in ("", "Safe", "safe ", " safe", "unsafe", "keep", b"safe", 1, None, ("safe",), ["safe"], Sly(), Hostile())
 ) + tuple(("order", "a", odd) for odd in odd_numbers(0, 16)) + tuple(("damps", "a", odd) for odd in ODD_POINTS) + tuple(
     (word, "a", odd) for word in ("safe in", "keeps") for odd in ODD_ABOVE_0) + (
     ("converges", "a", "a"), ("safe", "a", ONE), ("damps all", "a", ONE), ("order", "a"), ("damps", "a"), ("safe in", "a"), ("keeps", "a"),
